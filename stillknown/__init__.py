@@ -1,0 +1,1 @@
+"""What is still known of rows that were thrown away."""
