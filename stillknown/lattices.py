@@ -52,14 +52,14 @@ class Lattice:
 
     def tidy(self):
         """Make the numbers small that stand above the first ones of other lines."""
-        for place in sorted(self.lines, reverse=True):
-            line = self.lines[place]
-            for below in sorted(self.lines):
-                if below > place:
-                    other = self.lines[below]
-                    times = line[below] // other[below]
-                    line = [x - times * y for x, y in zip(line, other)]
-            self.lines[place] = line
+        places = sorted(self.lines)
+        for at in range(len(places) - 1, -1, -1):
+            line = self.lines[places[at]]
+            for below in places[at + 1:]:
+                other = self.lines[below]
+                times = line[below] // other[below]
+                line = [x - times * y for x, y in zip(line, other)]
+            self.lines[places[at]] = line
 
 
 def taken_through(row, step):
