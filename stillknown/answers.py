@@ -43,7 +43,7 @@ def star_answer(loops, patterns, inner, rows):
 
 
 def span_answers(loops, patterns, expression, rows):
-    """A table with the answer for rows[begin:end] at [begin][end], 0 where end is below begin."""
+    """A table with the answer for rows[begin:end] at [begin][end]; where end is below begin it tells nothing."""
     if isinstance(expression, str):
         many = len(rows) + 1
         return [[0] * at + loops[expression].answers_along(rows[at:]) for at in range(many)]

@@ -151,7 +151,7 @@ class SizeTest(unittest.TestCase):
 
 class BookTest(unittest.TestCase):
     def test_properties_and_copies(self):
-        loops, patterns, questions = dict(LOOPS), dict(PATTERNS), {"z": "sum", "a": ("plus", "sum", "many")}
+        loops, patterns, questions = dict(LOOPS), {"four": FOUR, "even": EVEN}, {"z": "sum", "a": ("plus", "sum", "many")}
         book = Book(questions=questions, patterns=patterns, loops=loops)
         for given in (loops, patterns, questions, book.loops, book.patterns, book.questions):
             given.clear()

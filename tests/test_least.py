@@ -323,6 +323,23 @@ class LearnedTest(unittest.TestCase):
         self.assertEqual(form_answer(["in"], form, [("in", 10 ** 20)]), 3 * 10 ** 40 + 10 ** 20)
         self.assertTrue(is_form_of(book, "x", form))
 
+    def test_one_kind(self):
+        rows = [("a", -5), ("a", 7)] * 10
+        for size, told in [(1, lambda some: 5), (2, len), (3, lambda some: len(some) ** 2 - 3),
+                           (3, lambda some: 1 if len(some) == 2 else 0)]:
+            for most in range(size, 4):
+                form = learned(told, ["a"], most, 0)
+                self.assertEqual(len(form[0]), size)
+                for many in range(21):
+                    self.assertEqual(form_answer(["a"], form, rows[:many]), told(rows[:many]))
+
+    def test_one_way_alone(self):
+        # Only a row of "b" and one of "c" behind it lead to an answer that is not 0.
+        form = learned(lambda some: 1 if [row[0] for row in some] == ["b", "c"] else 0, list("abc"), 3, 1)
+        self.assertEqual(len(form[0]), 3)
+        for some in all_rows(list("abc"), (4,), 5):
+            self.assertEqual(form_answer(list("abc"), form, some), 1 if some == [("b", 4), ("c", 4)] else 0)
+
     def test_kinds_and_exceptions(self):
         form = learned(ask=lambda rows: len(rows), kinds=("b", "a", "c"), size=2, degree=0)
         self.assertEqual(list(form[1]), ["a", "b", "c"])
