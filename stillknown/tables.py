@@ -1,6 +1,6 @@
 """Tables of whole numbers: products, sums, and rows that hang on one another."""
 
-from math import gcd
+from math import gcd, lcm
 
 
 def row_through(row, table):
@@ -15,6 +15,11 @@ def row_through(row, table):
 def dot(row, column):
     """A row of numbers times a column of as many."""
     return sum([one * other for one, other in zip(row, column)])
+
+
+def multiplied(one, other):
+    """The product of two square tables."""
+    return tuple([row_through(line, other) for line in one])
 
 
 def mirrored(table):
@@ -76,28 +81,42 @@ def made_small(row):
 
 
 class Span:
-    """Rows none of which hangs on the others, kept in a form in which this is easily seen."""
+    """Rows none of which hangs on the others, each with a place where all others have 0.
 
-    def __init__(self):
-        self.lines = []
+    Only the first places, as many as the width, are looked at; what stands behind them goes along.
+    """
+
+    def __init__(self, width=None):
+        self.width = width
+        self.lines = {}
 
     def rest(self, row):
         """What is left of a row if the rows that were taken are drawn from it; zeros if it hangs on them."""
-        left = list(row)
-        for place, line in self.lines:
-            if left[place] != 0:
-                common = gcd(line[place], left[place])
-                times, draw = line[place] // common, left[place] // common
-                left = [times * x - draw * y for x, y in zip(left, line)]
+        draws = [(place, self.lines[place]) for place in self.lines if row[place] != 0]
+        times = 1
+        for place, line in draws:
+            times = lcm(times, line[place] // gcd(line[place], row[place]))
+        left = [times * x for x in row]
+        for place, line in draws:
+            draw = times * row[place] // line[place]
+            left = [x - draw * y for x, y in zip(left, line)]
         return made_small(left)
 
     def take(self, row):
         """Take a row, unless it hangs on those that were taken; returns whether it was taken."""
         left = self.rest(row)
-        place = first_place(left)
+        place = first_place(left if self.width is None else left[:self.width])
         if place is None:
             return False
-        self.lines.append((place, left))
+        if left[place] < 0:
+            left = [-x for x in left]
+        for other in list(self.lines):
+            line = self.lines[other]
+            if line[place] != 0:
+                common = gcd(left[place], line[place])
+                times, draw = left[place] // common, line[place] // common
+                self.lines[other] = made_small([times * x - draw * y for x, y in zip(line, left)])
+        self.lines[place] = left
         return True
 
 

@@ -63,3 +63,20 @@ def checked_rows(kinds, rows):
         if not is_row(kinds, row):
             raise BadRows(at)
     return list(rows)
+
+
+def is_surrounding(kinds, value):
+    """Whether a value is a pair of row lists of the kinds."""
+    return is_tuple_of(value, 2) and is_row_list(kinds, value[0]) and is_row_list(kinds, value[1])
+
+
+def is_pair_of_number(value):
+    """Whether a value is a pair of a number other than 0 and something."""
+    return is_tuple_of(value, 2) and is_number(value[0]) and value[0] != 0
+
+
+def is_mix(kinds, value):
+    """Whether a value is a list of one or more pairs of a coefficient and a row list of the kinds."""
+    if not is_list(value) or len(value) == 0:
+        return False
+    return all([is_pair_of_number(pair) and is_row_list(kinds, pair[1]) for pair in value])
