@@ -1,5 +1,6 @@
 """A plain going over the rows, and books made at random, for the tests."""
 
+from fractions import Fraction
 from itertools import product
 
 from stillknown.books import Book
@@ -167,3 +168,71 @@ def determinant(table):
         rest = [line[:at] + line[at + 1:] for line in table[1:]]
         total += (-1) ** at * number * determinant(rest)
     return total
+
+
+def random_questions(chance, book, most=5, deep=3, all_bounds=9):
+    """A book with the loops and patterns of a book and questions made at random."""
+    questions = {}
+    left = all_bounds
+    for name in chance.sample("abcd", chance.randint(1, 3)):
+        expression = random_expression(chance, book, most, deep)
+        if book.bound_of(expression) <= left:
+            questions[name] = expression
+            left -= book.bound_of(expression)
+    return Book(book.loops, book.patterns, questions)
+
+
+def random_rows(chance, kinds, most=4, size=3):
+    """A row list made at random."""
+    return [(chance.choice(kinds), chance.randint(-size, size)) for _ in range(chance.randint(0, most))]
+
+
+def random_reading(chance, book, most=3):
+    """A reading made at random."""
+    return chance.choice(book.names), (random_rows(chance, book.kinds, most), random_rows(chance, book.kinds, most))
+
+
+def random_mix(chance, book, most=4):
+    """A mix made at random."""
+    return [(chance.choice([-3, -2, -1, 1, 1, 2, 5]), random_rows(chance, book.kinds))
+            for _ in range(chance.randint(1, most))]
+
+
+def plain_told(book, reading, piece):
+    """What a reading tells of a piece, by the words of point 30."""
+    name, (ahead, behind) = reading
+    return plain_answer(book, book.questions[name], list(ahead) + list(piece) + list(behind))
+
+
+def plain_told_of_mix(book, reading, mix):
+    """What a reading tells of a mix."""
+    return sum(coefficient * plain_told(book, reading, piece) for coefficient, piece in mix)
+
+
+def rank_of(table):
+    """The rank of a table, with fractions."""
+    lines = [[Fraction(x) for x in line] for line in table]
+    found = 0
+    for place in range(len(lines[0]) if lines else 0):
+        pivots = [line for line in lines if line[place] != 0]
+        if pivots:
+            pivot = pivots[0]
+            lines = [[x - line[place] / pivot[place] * y for x, y in zip(line, pivot)]
+                     for line in lines if line is not pivot]
+            found += 1
+    return found
+
+
+def plain_readings(book, below, numbers=(0, 1)):
+    """All readings with fewer rows than so many ahead, and behind."""
+    lists = list(all_rows(book.kinds, numbers, below))
+    return [(name, (ahead, behind)) for name in book.names for ahead in lists for behind in lists]
+
+
+def check_any_values(case, judge, good=()):
+    """Any value is judged: True for those that are good, False for odd values."""
+    for value in good:
+        case.assertIs(judge(value), True, value)
+    for value in ODD_VALUES:
+        if value not in good:
+            case.assertIs(judge(value), False, value)

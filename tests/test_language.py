@@ -198,6 +198,13 @@ class Language(unittest.TestCase):
                 self.assertFalse(set(made) & set(dir(str) + dir(dict) + dir(list) + dir(int)) - {
                     "__init__", "__eq__", "__repr__", "__str__", "__len__"}, node.name)
 
+    def test_no_attribute_has_the_name_of_a_property(self):
+        named = {part.name for _, node in self.each() if isinstance(node, ast.ClassDef) for part in node.body
+                 if isinstance(part, ast.FunctionDef) and part.decorator_list}
+        for path, node in self.each():
+            if isinstance(node, ast.Attribute) and isinstance(node.ctx, ast.Store):
+                self.assertNotIn(node.attr, named, self.where(path, node))
+
     def test_module_tables_are_only_read(self):
         for path, tree in self.trees.items():
             tables = {node.targets[0].id for node in tree.body
