@@ -1,6 +1,5 @@
 """A plain going over the rows, and books made at random, for the tests."""
 
-from fractions import Fraction
 from itertools import product
 
 from stillknown.books import Book
@@ -209,18 +208,37 @@ def plain_told_of_mix(book, reading, mix):
     return sum(coefficient * plain_told(book, reading, piece) for coefficient, piece in mix)
 
 
+PRIME = 2 ** 61 - 1
+
+
+class Free:
+    """Rows none of which hangs on the others, by remainders for a great prime."""
+
+    def __init__(self, rows=()):
+        self.lines = []
+        for row in rows:
+            self.take(row)
+
+    def rest(self, row):
+        row = [x % PRIME for x in row]
+        for place, line in self.lines:
+            if row[place]:
+                row = [(x - row[place] * y) % PRIME for x, y in zip(row, line)]
+        return row
+
+    def take(self, row):
+        row = self.rest(row)
+        for place, x in enumerate(row):
+            if x:
+                back = pow(x, -1, PRIME)
+                self.lines.append((place, [y * back % PRIME for y in row]))
+                return True
+        return False
+
+
 def rank_of(table):
-    """The rank of a table, with fractions."""
-    lines = [[Fraction(x) for x in line] for line in table]
-    found = 0
-    for place in range(len(lines[0]) if lines else 0):
-        pivots = [line for line in lines if line[place] != 0]
-        if pivots:
-            pivot = pivots[0]
-            lines = [[x - line[place] / pivot[place] * y for x, y in zip(line, pivot)]
-                     for line in lines if line is not pivot]
-            found += 1
-    return found
+    """The rank of a table; no table in these tests is a times of the prime."""
+    return len(Free(table).lines)
 
 
 def plain_readings(book, below, numbers=(0, 1)):
