@@ -123,8 +123,8 @@ class Past:
         for index, expression in enumerate(expressions):
             asked[index] = expression
         self.forms = {key: made_least(own_form(book, asked[key])) for key in asked}
-        self.degree = max([book.degree_of(asked[key]) for key in asked], default=0)
-        ways, good = ways_of(book, among, self.degree)
+        self.highest = max([book.degree_of(asked[key]) for key in asked], default=0)
+        ways, good = ways_of(book, among, self.highest)
         self.spanning = past_words(self.forms, ways, good)
         self.kept = [[1] * len(self.spanning)] + [self.told(name, behind) for name, behind in keep]
 

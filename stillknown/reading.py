@@ -41,7 +41,7 @@ def lasting(book, keep):
     span = Span()
     for told in past.kept:
         span.take(told)
-    letters = [(kind, number) for kind in book.kinds for number in range(past.degree + 1)]
+    letters = [(kind, number) for kind in book.kinds for number in range(past.highest + 1)]
     waiting = [(name, list(behind), past.column(name, behind)) for name, behind in keep]
     found = []
     at = 0

@@ -37,8 +37,8 @@ class Shelf:
             forms = forms_of(version)
             for name in forms:
                 self.called[(index, name)] = self.own_key((index, name), forms[name])
-        self.degree = max([degree_of_book(version) for version in versions])
-        self.pieces = spanning_pieces(self.unlike, self.degree)
+        self.highest = max([degree_of_book(version) for version in versions])
+        self.pieces = spanning_pieces(self.unlike, self.highest)
         self.ones = [1] * len(self.pieces)
 
     def own_key(self, key, form):
@@ -59,7 +59,7 @@ class Shelf:
         """Readings, with what they tell, on which all readings of these questions of a version hang."""
         seen = []
         for name in names:
-            for surrounding in surroundings_of(self.unlike[self.called[(version, name)]], self.degree):
+            for surrounding in surroundings_of(self.unlike[self.called[(version, name)]], self.highest):
                 seen.append(((version, name, surrounding), self.told((version, name, surrounding))))
         kept = free_indexes([self.ones] + [told for _, told in seen])
         return [seen[at - 1] for at in kept if at > 0]

@@ -211,8 +211,8 @@ def untold_places(old, new, name, many):
     shelf = Shelf([old, new])
     span = span_of([[shelf.ones], told_rows(shelf.readings(0, old.names))])
     form = shelf.unlike[shelf.called[(1, name)]]
-    aheads = [ahead for ahead, _ in words_ahead(form, shelf.degree)]
-    behinds = [behind for behind, _ in words_behind(form, shelf.degree)]
+    aheads = [ahead for ahead, _ in words_ahead(form, shelf.highest)]
+    behinds = [behind for behind, _ in words_behind(form, shelf.highest)]
     places = []
     for place in range(many):
         # Nothing stands ahead of the first piece, and nothing behind the last one.

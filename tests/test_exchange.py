@@ -187,7 +187,7 @@ class OrderTest(unittest.TestCase):
                 asked({})
             self.assertIsNone(caught.exception.at)
         rows = [("in", 1), ("in", 2)]
-        for value in [*ODD_VALUES, [0], [0, 1, 2], [0, 0], [0, 2], [-1, 0], [0, True], [False, 1], [1, None], {0: 1, 1: 0}]:
+        for value in [*ODD_VALUES, [0], [0, 1, 2], [0, 0], [0, 1, 1], [1, 0, 0], [0, 2], [-1, 0], [0, True], [False, 1], [1, None], {0: 1, 1: 0}]:
             self.assertRaises(BadOrder, is_let, TWO, rows, value)
         self.assertRaises(BadOrder, is_let, TWO, [], [0])
         self.assertIs(is_let(TWO, [], ()), True)
@@ -226,6 +226,16 @@ class MergeTest(unittest.TestCase):
         self.assertEqual(undoings(book, "a"), [("b", -1, 0), ("b", 1, 0)])
         self.assertEqual(mergings(book, "a", "b"), [])
         self.assertEqual(idle_numbers(book, "a"), (0,))
+
+    def test_undone_for_small_numbers_only(self):
+        # In x and y and z the numbers 0 and 1 are undone, but from 2 on a part of x is left in z.
+        loop = Loop({"x": 1, "y": 0, "z": 0}, {
+            "k": {"x": (("x", 0, 1),), "y": (("x", 1, 1), ("y", 0, 1)), "z": (("y", 1, 1), ("z", 0, 1))},
+            "l": {"x": (("x", 0, 1),), "y": (("x", 1, -1), ("y", 0, 1)),
+                  "z": (("x", 1, 1), ("y", 1, -1), ("z", 0, 1))}}, (("z", 0, 1),))
+        book = Book({"l": loop}, {}, {"a": "l"})
+        self.assertEqual([replaces(book, [("k", x), ("l", x)], []) for x in range(4)], [True, True, False, False])
+        self.assertEqual(undoings(book, "k"), [])
 
     def test_random(self):
         chance = random.Random(53)

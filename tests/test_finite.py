@@ -105,6 +105,10 @@ class HingeTest(unittest.TestCase):
         self.assertIsNone(hinge(BOOK, ("only", "never", "sum")))
         self.assertEqual(hinge(MORE, ("turned", "last")), ([], "in", []))
         self.assertEqual(hinge(book=MORE, question=("without", "out", "last")), ([], "in", []))
+        # What comes with a is told one row later, what comes with b at once.
+        later = Loop({"x": 0, "y": 0}, {"a": {"x": (("", 1, 1),), "y": (("y", 0, 1),)},
+                                        "b": {"x": (), "y": (("", 1, 1), ("x", 0, 1), ("y", 0, 1))}}, (("y", 0, 1),))
+        self.assertEqual(hinge(Book({"l": later}, {}, {"a": "l"}), "l"), ([], "b", []))
         # The number is read by the rows behind alone, one of them at least.
         ahead, kind, behind = hinge(BOOK, ("only", "even", "sum"))
         self.assertEqual(len(ahead) + len(behind), 0 if kind == "out" else 1)
@@ -329,7 +333,8 @@ class PaperTest(unittest.TestCase):
                  ("hinge", signs), ("climb", signs), ["machine", signs], ("machine",), ("machine", signs, 1),
                  ("machine", ((1, -1), {"in": (1, 0), "out": (1, 0)})), ("machine", ((1, -1), {"in": (0, 1), "out": (0, 1)})),
                  ("machine", ((1, -1), {1: (1, 0), 2: (0, 1)})), ("machine", (1, -1)), ("machine", ((1, -1), [(1, 0), (0, 1)])),
-                 ("machine", ((1, -1, 1), {"in": (1, 2, 2), "out": (0, 1, 2)})), (None, signs), (["machine"], signs)]
+                 ("machine", ((1, -1, 1), {"in": (1, 2, 2), "out": (0, 1, 2)})), ("machine", ((1, -1), ("in", "out"))),
+                 ("machine", ((1, -1), "inout")), (None, signs), (["machine"], signs)]
         for value in wrong:
             self.assertIs(is_finite_paper(BOOK, "sign", value), False, value)
         self.assertIs(is_finite_paper(thing=good[0], question="sign", book=BOOK), True)
@@ -360,6 +365,13 @@ class PaperTest(unittest.TestCase):
                       ([], [("in", 0)], [("in", 0)] * 41), [[], [("in", 0)], []], ([], [("in", 0)]), ([], [("in", True)], []),
                       ([], [("no", 0)], []), ([], ("in", 0), []), ([], [("in", 0)], [], [])]:
             self.assertIs(is_finite_paper(BOOK, "many", ("climb", value)), False, value)
+        for word in ("hinge", "machine", "what", ""):
+            self.assertIs(is_finite_paper(BOOK, "many", (word, ([], [("in", 0)], []))), False)
+        # All rows behind count, in their order.
+        for behind, told in [([("in", 0), ("out", 1)], False), ([("out", 1), ("in", 0)], False), ([("in", 2), ("out", 1)], True),
+                             ([("in", 0), ("in", 2)], True), ([("in", 2), ("in", 0)], False)]:
+            shown = "climb", ([], [("out", 3)], behind)
+            self.assertIs(is_finite_paper(MORE, ("both", "double", "last"), shown), told)
         # Numbers other than 0 may make it climb; those that cancel do not.
         self.assertIs(is_finite_paper(BOOK, "sum", ("climb", ([], [("in", 1)], []))), True)
         self.assertIs(is_finite_paper(BOOK, "sum", ("climb", ([], [("in", 0)], []))), False)
@@ -457,7 +469,10 @@ class WheelTest(unittest.TestCase):
                  ((0, 1), {"in": line, "out": ((0, 1), (1, -1))}), ((0, 1), {"in": line, "out": ((0, 1), (True, 0))}),
                  ((0, 1), {"in": line, "out": line[::-1]}), ((0, -1), {"in": line, "out": line}),
                  ((0,) + (1,) * 200, {"in": ((0,) * 201,) * 2, "out": ((0,) * 201,) * 2}), ((), {"in": ((), ()), "out": ((), ())}),
-                 ((0, 1), {"in": line, "out": line}, 1), ((0, 1), {"in": line * 2, "out": line})]
+                 ((0, 1), {"in": line, "out": line}, 1), ((0, 1), {"in": line * 2, "out": line}), ((0, 1), ("in", "out")),
+                 # A state that is never come to, with a remainder that there is not.
+                 ((0, 1, 2), {"in": ((0, 1, 2), (1, 0, 2)), "out": ((0, 1, 2), (1, 0, 2))}),
+                 ((0, 1, -1), {"in": ((0, 1, 2), (1, 0, 2)), "out": ((0, 1, 2), (1, 0, 2))})]
         for value in wrong:
             self.assertIs(is_wheel(BOOK, "sum", 2, value), False, value)
         many = ((0,) + (1,) * 199, {kind: (tuple(range(200)), (199,) + (0,) * 199) for kind in ("in", "out")})
@@ -564,7 +579,8 @@ class CommonTest(unittest.TestCase):
             self.assertIs(is_common(BOOK, six, value), False, value)
         for value in [(0, 1, [[]]), (0, 1, ((), one, one)), (0, 1, [[]] * 60)]:
             self.assertIs(is_common(BOOK, "one", value), True)
-        for value in [(0, 0, [[]]), (0, 1, []), (1, 0, [[]]), (0, 1, [one]), (0, 1, [[]] * 61), (False, 1, [[]]), (0, True, [[]])]:
+        for value in [(0, 0, [[]]), (0, 1, []), (1, 0, [[]]), (0, 1, [one]), (0, 1, [[]] * 61), (False, 1, [[]]), (0, True, [[]]),
+                      (0, 1, {(): 1}), (0, 1, "")]:
             self.assertIs(is_common(BOOK, "one", value), False)
         self.assertIs(is_common(BOOK, "sum", (1, 0, [[], one])), True)
         self.assertIs(is_common(thing=(1, 0, [[], [("in", 2)], [("in", 3)]]), question="sum", book=BOOK), True)

@@ -255,7 +255,11 @@ class ToldTest(unittest.TestCase):
                ((("a", ([("t", 1)], [])), ("b", EMPTY)), joins, answers, over),
                ((("a", ([("in", True)], [])), ("b", EMPTY)), joins, answers, over),
                ((("a", ([["in", 1]], [])), ("b", EMPTY)), joins, answers, over),
-               ((("a", [[], []]), ("b", EMPTY)), joins, answers, over),
+               ((("a", [[], []]), ("b", EMPTY)), joins, answers, over), ((1, 2), joins, answers, over),
+               ((["a", EMPTY], ("b", EMPTY)), joins, answers, over), ((("a", EMPTY, 1), ("b", EMPTY)), joins, answers, over),
+               ((("a", ({}, [])), ("b", EMPTY)), joins, answers, over), ((("a", ([], "")), ("b", EMPTY)), joins, answers, over),
+               ((("a", ([], None)), ("b", EMPTY)), joins, answers, over),
+               ((("a", ([], [("in", True)])), ("b", EMPTY)), joins, answers, over),
                (readings, joins, ((0, 1, 0), (0, 0, None)), over), (readings, (joins[0], None), answers, over)]
         for value in bad:
             self.assertRaises(BadPaper, joined, value, None, None)

@@ -141,6 +141,9 @@ class ToldByTest(unittest.TestCase):
         # 3 times A_IN is 12 and 3 times A: of A_OUT, one less than A, once, and twice A.
         self.assertIs(is_told_by(TWO, [A, A_OUT], A_IN, (3, 13, 2, 1)), True)
         self.assertIs(is_told_by(FLAT, [], B, (1, 1)), True)
+        # For rows with the number 0 alone the sum would be told by nothing.
+        self.assertIs(is_told_by(TWO, [], A, (1, 0)), False)
+        self.assertIs(is_told_by(TWO, [B], A, (1, 0, 0)), False)
 
     def test_are_twins(self):
         one = [("in", 1)]

@@ -408,7 +408,11 @@ class CrowdsTest(unittest.TestCase):
                  ([[1, [("in", 1)]]], [(1, [("in", 0), ("in", 1)])], []), ([(1, [("in", 1)])], [(1, [("in", 0), ("in", 1)])], None),
                  ([(1, [("in", 1)])], [(1, [("in", 0), ("in", 1)])], [("no", 1)]), ([(1, [("in", 1)])], [(1, None)], []),
                  ({(1, ()): 1}, [(1, [("in", 0), ("in", 1)])], []), ([(1, [("in", 1)], 1)], [(1, [("in", 0), ("in", 1)])], []),
-                 ([(1, [("in", 1)])], [], [])]
+                 ([(1, [("in", 1)])], [], []), ({(1, (("in", 1),)): 1}, [(1, [("in", 0), ("in", 1)])], []),
+                 ([(1, [("in", 1)])], {(1, (("in", 0), ("in", 1))): 1}, []),
+                 # A count of 0; a house more, whose sum is 0.
+                 ([(1, [("in", 1)]), (0, [])], [(1, [("in", 0), ("in", 1)])], []),
+                 ([(1, [("in", 1)])], [(1, [("in", 0), ("in", 1)]), (1, [])], [])]
         for value in wrong:
             self.assertIs(are_crowds(BOOK, keep, "many", value), False, value)
         # They begin with the rows behind which they refute.
@@ -453,6 +457,7 @@ class ReadingTest(unittest.TestCase):
         self.assertEqual(to_read(BOOK, [("n", [])], ["sum"]), [(0, [])])
         self.assertEqual(to_read(BOOK, [], ["sum", "many", "sum"]), [(0, []), (1, [])])
         self.assertEqual(to_read(expressions=("one",), keep=(), book=FLAT), [])
+        self.assertEqual(to_read(BOOK, KEEP, ["sum", "many", "sum", "square"]), [(3, [])])
         self.assertEqual(len(to_read(BOOK, KEEP, [("cuts", "many", "sum")])), 2)
         self.assertEqual(len(to_read(BOOK, [], [("cuts", "many", "sum")])), 3)
         self.assertEqual(to_read(BOOK, [], ["sum"], among=("in", [])), [(0, [])])
