@@ -15,7 +15,7 @@ from stillknown.finite import (
 from stillknown.loops import Loop
 from stillknown.patterns import Pattern
 from stillknown.roots import whole_roots
-from stillknown.turns import are_endless
+from stillknown.turns import are_endless, turned_apart
 from tests.books import COUNT, DOUBLE, EVEN, LAST, NEVER, ONE, SHORT, SIGN, SQUARE, SUM, ZERO, same_loop
 from tests.plain import ODD_VALUES, all_rows, check_any_values, plain_answer, random_book, random_expression
 
@@ -156,6 +156,10 @@ class ClimbTest(unittest.TestCase):
         self.check(BOOK, ("cuts", "one", "one"), 1)
         self.check(BOOK, ("both", "many", "sign"), 1)
         self.check(PAIR, "shear", 2)
+        # With no rows behind it is 1 for ever; a row of b brings out how many rows of a there were.
+        late = Loop({"x": 1, "n": 0}, {"a": {"x": (("x", 0, 1),), "n": (("", 0, 1), ("n", 0, 1))},
+                                       "b": {"x": (("n", 0, 1),), "n": (("n", 0, 1),)}}, (("x", 0, 1),))
+        self.check(Book({"l": late}, {}, {"a": "l"}), "l", 1)
         self.assertEqual(climb(book=PAIR, question="shear"), climb(PAIR, "shear"))
 
     def test_none(self):
@@ -194,6 +198,13 @@ class ClimbTest(unittest.TestCase):
         late = tuple(tuple(1 if j == i + 1 else 0 for j in range(6)) for i in range(6))
         for table in (five, seven, nine, late):
             self.assertIs(are_endless((1, 2, 0, 5, 1, 0), table, (1, 0, 3, 0, 0, 7)), False)
+        eight = five[:3] + ((-1, 0, 0, 0, 0, 0), (0, 0, 0, 0, 0, 1), (0, 0, 0, 0, -1, -1))
+        for table in (five, seven, nine, late, eight):
+            self.assertIsNone(turned_apart(table))
+            self.assertIs(are_endless((1, 2, 0, 5, 1, 0), table, (1, 0, 3, 0, 0, 7)), False)
+        for table in (((1, 1), (0, 1)), ((0, 1), (1, 1)), ((-1, 1), (0, -1)), ((2,),), ((0, 1), (-1, 2))):
+            self.assertIsNotNone(turned_apart(table))
+        self.assertIsNone(turned_apart(()))
         grows = nine[:5] + ((-1, 0, 0, -1, 0, 1),)
         self.assertIs(are_endless((1, 2, 0, 5, 1, 0), grows, (1, 0, 3, 0, 0, 7)), True)
         far = 10 ** 29

@@ -207,7 +207,7 @@ class TellingTest(unittest.TestCase):
                 ("told", 1, [(2, own), (-1, own), (4, None)]), ("told", 1, [(1, own), (5, None), (-1, None)]),
                 ("told", 1, [(1, own), (4, None), (3, (0, "b", EMPTY)), (-3, (0, "b", ((), ())))])]
         check_any_values(self, lambda value: is_telling(SN, S, reading, value), good)
-        wrong = [("told", 1, [(1, own)]), ("told", 0, [(1, own), (4, None)]), ("told", True, [(1, own), (4, None)]),
+        wrong = [("told", 1, [(1, own)]), ("told", 0, [(1, own), (4, None)]), ("told", 0, [(1, None), (-1, None)]), ("told", True, [(1, own), (4, None)]),
                  ["told", 1, [(1, own), (4, None)]], ("told", 1, [(1, reading)]), ("told", 1, []), ("told", 1, [(0, own), (4, None)]),
                  ("told", 1, [[1, own], (4, None)]), ("told", 1, [(1, own), (4, 0)]), ("told", -1, [(-1, own), (-4, None)]),
                  ("told", 1, {1: 2}), ("untold", [(1, []), (-1, [("in", 1)])]), ("told", 1, [(1, (0, "c", EMPTY))]),
