@@ -62,6 +62,11 @@ def answer_values(forms, pieces):
     return [told_of(forms[key], key, ((), ()), pieces) for key in forms]
 
 
+def divided(table, common):
+    """A table with all its numbers divided by a divisor that they have in common."""
+    return tuple([tuple([number // common for number in line]) for line in table])
+
+
 def hand_over(book):
     """A right hand-over of the fewest numbers."""
     check_book(book)
@@ -70,18 +75,13 @@ def hand_over(book):
     # What the pieces hand on is a regular table: a join is what stands between it and its mirror.
     back, divisor = solved(lines, units(len(lines)))
     joins = [multiplied(multiplied(back, values), mirrored(back)) for values in joined_values(forms, readings, pieces)]
-    answers = [tuple([divisor * dot(line, told) for line in back]) for told in answer_values(forms, pieces)]
+    answers = [tuple([divisor * dot(shares, told) for shares in back]) for told in answer_values(forms, pieces)]
     over = divisor * divisor
     common = over
-    for line in answers + [line for table in joins for line in table]:
+    for line in answers + [shares for table in joins for shares in table]:
         for number in line:
             common = gcd(common, number)
-    return (
-        readings,
-        tuple([tuple([tuple([number // common for number in line]) for line in table]) for table in joins]),
-        tuple([tuple([number // common for number in line]) for line in answers]),
-        over // common,
-    )
+    return readings, tuple([divided(table, common) for table in joins]), divided(answers, common), over // common
 
 
 def is_hand_over(book, thing):

@@ -31,7 +31,7 @@ def column_apart(rows, wish):
     if len(free_indexes(lines)) < len(lines):
         return None
     places = free_indexes(mirrored(lines))
-    square = [[line[place] for place in places] for line in lines]
+    square = [[line[at] for at in places] for line in lines]
     shares, _ = solved(square, [[0]] * (len(lines) - 1) + [[1]])
     column = [0] * len(wish)
     for place, share in zip(places, shares):

@@ -102,7 +102,7 @@ def telling(old, new, reading):
     found = hung_on(rows, wish)
     if found is None:
         column = column_apart(rows, wish)
-        return "untold", [(number, list(rows)) for number, (rows, _) in zip(column, shelf.pieces) if number != 0]
+        return "untold", [(number, list(piece)) for number, (piece, _) in zip(column, shelf.pieces) if number != 0]
     over, numbers = found
     items = [None] + [item for item, _ in readings]
     blend = [(number, item) for number, item in zip(numbers, items) if number != 0]

@@ -139,10 +139,12 @@ def pattern_in(wheel, wanted):
     """The pattern of the rows that a wheel leads to a wanted remainder; None if there is none of four states."""
     remainders, steps = wheel
     kinds = sorted(steps)
-    lines = [[line[state] for kind in kinds for line in steps[kind]] for state in range(len(remainders))]
+    flat = [line for kind in kinds for line in steps[kind]]
+    lines = [[line[state] for line in flat] for state in range(len(remainders))]
     classes = classes_of([1 if remainder in wanted else 0 for remainder in remainders], lines)
     for kind in kinds:
-        for places in zip(*steps[kind]):
+        moved = steps[kind]
+        for places in zip(*moved):
             if not all([classes[place] == classes[places[0]] for place in places]):
                 return None
     leads = {own: at for at, own in enumerate(classes)}

@@ -198,6 +198,46 @@ class Language(unittest.TestCase):
                 self.assertFalse(set(made) & set(dir(str) + dir(dict) + dir(list) + dir(int)) - {
                     "__init__", "__eq__", "__repr__", "__str__", "__len__"}, node.name)
 
+    def test_stars_stand_before_names(self):
+        for path, node in self.each():
+            if isinstance(node, ast.Starred):
+                plain = node.value.value if isinstance(node.value, ast.Attribute) else node.value
+                self.assertIsInstance(plain, ast.Name, self.where(path, node))
+
+    def test_what_is_iterated_at_once(self):
+        takers = set("list tuple dict sorted sum any all enumerate zip min max".split())
+        for path, tree in self.trees.items():
+            for outer in ast.walk(tree):
+                for node in ast.iter_child_nodes(outer):
+                    if not isinstance(node, ast.Call) or not isinstance(node.func, ast.Name):
+                        continue
+                    if node.func.id in ("zip", "enumerate", "reversed", "product", "combinations", "permutations"):
+                        taken = isinstance(outer, ast.Call) and isinstance(outer.func, ast.Name) and outer.func.id in takers
+                        self.assertTrue(taken or isinstance(outer, (ast.For, ast.comprehension)), self.where(path, node))
+                    if node.func.id == "set":
+                        taken = isinstance(outer, ast.Call) and isinstance(outer.func, ast.Name)
+                        self.assertTrue(taken and outer.func.id in ("len", "sorted"), self.where(path, node))
+
+    def test_names_in_nested_comprehensions(self):
+        kinds = (ast.ListComp, ast.DictComp)
+        for path, tree in self.trees.items():
+            for function in ast.walk(tree):
+                if not isinstance(function, ast.FunctionDef):
+                    continue
+                assigned = {part.arg for part in ast.walk(function.args) if isinstance(part, ast.arg)}
+                for part in ast.walk(function):
+                    if isinstance(part, (ast.Assign, ast.For)):
+                        targets = part.targets if isinstance(part, ast.Assign) else [part.target]
+                        assigned |= {name for target in targets for name in bound_names(target)}
+                for outer in ast.walk(function):
+                    if not isinstance(outer, kinds):
+                        continue
+                    taken = assigned | {name for one in outer.generators for name in bound_names(one.target)}
+                    for inner in ast.walk(outer):
+                        if isinstance(inner, kinds) and inner is not outer:
+                            names = {name for one in inner.generators for name in bound_names(one.target)} - {"_"}
+                            self.assertFalse(names & taken, self.where(path, inner))
+
     def test_no_attribute_has_the_name_of_a_property(self):
         named = {part.name for _, node in self.each() if isinstance(node, ast.ClassDef) for part in node.body
                  if isinstance(part, ast.FunctionDef) and part.decorator_list}
