@@ -81,3 +81,13 @@ def degree_over(loops, expression):
     if expression[0] == "both":
         return degrees[0] + degrees[1]
     return max(degrees)
+
+
+def length_of(word):
+    """How many items an expression that begins with a word has; None if none begins with it."""
+    return LENGTHS.get(word)
+
+
+def has_told_item(word):
+    """Whether a number, a kind or a pattern's name stands behind this first item."""
+    return PLACES[word][0] == 2

@@ -48,6 +48,8 @@ def bound_names(node):
             yield part.id
         elif isinstance(part, ast.arg):
             yield part.arg
+        elif isinstance(part, ast.ExceptHandler) and part.name is not None:
+            yield part.name
 
 
 class Language(unittest.TestCase):
@@ -195,7 +197,7 @@ class Language(unittest.TestCase):
                 made = [part.name for part in node.body if isinstance(part, ast.FunctionDef)]
                 self.assertEqual(len(made), len(set(made)), node.name)
                 self.assertFalse(stored & set(made), node.name)
-                self.assertFalse(set(made) & set(dir(str) + dir(dict) + dir(list) + dir(int)) - {
+                self.assertFalse(set(made) & set(dir(str) + dir(dict) + dir(list) + dir(int)) - METHODS - {
                     "__init__", "__eq__", "__repr__", "__str__", "__len__"}, node.name)
 
     def test_stars_stand_before_names(self):
