@@ -7,7 +7,7 @@ from stillknown.errors import BadNumbers, BadPaper, TooMany
 from stillknown.ownforms import are_numbers, rows_taken
 from stillknown.papers import is_paper
 from stillknown.pieces import (
-    blocks_of, degree_of_book, forms_of, seen_by, spanning_pieces, surroundings_of, told_of,
+    blocks_of, degree_of_book, forms_of, readings_shown, rows_around, seen_by, spanning_pieces, told_of,
 )
 from stillknown.tables import Span, dot, free_indexes, mirrored, multiplied, row_through, solved, units
 from stillknown.values import checked_rows, is_row_list, is_tuple_of
@@ -24,12 +24,11 @@ def handed(book):
 
 def free_readings(forms, degree, pieces):
     """Readings none of which hangs straight on the others, as many as can be, with what they tell of pieces."""
-    offered = [(key, surrounding) for key in forms for surrounding in surroundings_of(forms[key], degree)]
+    offered = [(key, pair) for key in forms for pair in readings_shown(forms[key], key, degree, pieces)]
     span = Span()
     span.take([1] * len(pieces))
     kept = []
-    for key, surrounding in sorted(offered, key=lambda reading: len(reading[1][0]) + len(reading[1][1])):
-        told = told_of(forms[key], key, surrounding, pieces)
+    for key, (surrounding, told) in sorted(offered, key=lambda reading: rows_around(reading[1][0])):
         if span.take(told):
             kept.append(((key, surrounding), told))
     return kept

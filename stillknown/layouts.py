@@ -106,8 +106,10 @@ class Ground:
             tables = [blocks[key] for _, blocks in self.pieces]
             options = [one if run[0] else other for one, other, run in zip(insides, outsides, runs)]
             answers = answers_along(self.forms[key], tables, options)
-            for line, inside in zip(lines, samples):
-                line.extend([answers[put_together(runs, inside, outside)] for outside in others])
+            lines = [
+                line + [answers[put_together(runs, inside, outside)] for outside in others]
+                for line, inside in zip(lines, samples)
+            ]
         return samples, outers, lines
 
     def options(self, runs, keys, lead):

@@ -122,11 +122,28 @@ def told_of(form, key, surrounding, pieces):
 
 def surroundings_of(form, degree):
     """Surroundings whose readings span all readings of the question, those with the fewest rows first."""
-    pairs = []
-    for ahead, _ in words_ahead(form, degree):
-        for behind, _ in words_behind(form, degree):
-            pairs.append((list(ahead), list(behind)))
-    return sorted(pairs, key=lambda pair: len(pair[0]) + len(pair[1]))
+    behinds = words_behind(form, degree)
+    pairs = [(list(ahead), list(behind)) for ahead, _ in words_ahead(form, degree) for behind, _ in behinds]
+    return sorted(pairs, key=rows_around)
+
+
+def rows_around(surrounding):
+    """How many rows a surrounding has."""
+    return len(surrounding[0]) + len(surrounding[1])
+
+
+def readings_shown(form, key, degree, pieces):
+    """The same surroundings in the same order, as pairs with what their readings tell of pieces."""
+    behinds = words_behind(form, degree)
+    tables = [blocks[key] for _, blocks in pieces]
+    found = []
+    for ahead, row in words_ahead(form, degree):
+        # What the rows ahead lead to is the same for all rows behind.
+        through = [row_through(row, table) for table in tables]
+        for behind, column in behinds:
+            told = [dot(line, column) for line in through]
+            found.append(((list(ahead), list(behind)), told))
+    return sorted(found, key=lambda pair: rows_around(pair[0]))
 
 
 def seen_apart(form, degree, table):

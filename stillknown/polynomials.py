@@ -85,7 +85,7 @@ def least_worth(coefficients):
     if len(short) < 2:
         return coefficients[0], None
     # Far out it goes up on both sides just if the highest power is even and stands with a sign of plus.
-    if len(short) & 1 == 0 or short[-1] < 0:
+    if len(short) % 2 == 0 or short[-1] < 0:
         return None
     turns = changes_of(slope_of(short))
     least = min([worth_at(short, number + more) for number in turns for more in (0, 1)])

@@ -1,7 +1,7 @@
 """The space of the readings of several books, and blends of their readings."""
 
 from stillknown.pieces import (
-    degree_of_book, forms_of, seen_by, spanning_pieces, surroundings_of, told_of, total_blocks, value_at,
+    degree_of_book, forms_of, readings_shown, seen_by, spanning_pieces, told_of, total_blocks, value_at,
 )
 from stillknown.tables import Span, free_indexes
 from stillknown.values import is_key_of, is_list, is_pair_of_number, is_surrounding, is_tuple_of, is_within
@@ -59,8 +59,9 @@ class Shelf:
         """Readings, with what they tell, on which all readings of these questions of a version hang."""
         seen = []
         for name in names:
-            for surrounding in surroundings_of(self.unlike[self.called[(version, name)]], self.highest):
-                seen.append(((version, name, surrounding), self.told((version, name, surrounding))))
+            key = self.called[(version, name)]
+            for surrounding, told in readings_shown(self.unlike[key], key, self.highest, self.pieces):
+                seen.append(((version, name, surrounding), told))
         kept = free_indexes([self.ones] + [told for _, told in seen])
         return [seen[at - 1] for at in kept if at > 0]
 

@@ -77,7 +77,9 @@ def made_small(row):
     common = 0
     for number in row:
         common = gcd(common, number)
-    return row if common < 2 else [number // common for number in row]
+        if common == 1:
+            return row
+    return row if common == 0 else [number // common for number in row]
 
 
 class Span:

@@ -213,15 +213,15 @@ def untold_places(old, new, name, many):
     form = shelf.unlike[shelf.called[(1, name)]]
     aheads = [ahead for ahead, _ in words_ahead(form, shelf.highest)]
     behinds = [behind for behind, _ in words_behind(form, shelf.highest)]
-    places = []
+    untold = {}
     for place in range(many):
-        # Nothing stands ahead of the first piece, and nothing behind the last one.
-        firsts = [[]] if place == 0 else aheads
-        lasts = [[]] if place == many - 1 else behinds
-        told = [shelf.told((1, name, (ahead, behind))) for ahead in firsts for behind in lasts]
-        if any([first_place(span.rest(row)) is not None for row in told]):
-            places.append(place)
-    return tuple(places)
+        ends = place == 0, place == many - 1
+        if ends not in untold:
+            # Nothing stands ahead of the first piece, and nothing behind the last one.
+            firsts, lasts = [[]] if ends[0] else aheads, [[]] if ends[1] else behinds
+            told = [shelf.told((1, name, (ahead, behind))) for ahead in firsts for behind in lasts]
+            untold[ends] = any([first_place(span.rest(row)) is not None for row in told])
+    return tuple([place for place in range(many) if untold[(place == 0, place == many - 1)]])
 
 
 def turned_places(old, new, name, many):
