@@ -96,15 +96,13 @@ def answers_of(book, tuples):
     paper = hand_over(book)
     check_tuples(tuples)
     seats = sorted(tuples)
-    if len(tuples[seats[0]]) != len(paper[0]):
-        raise BadTuples("not as many numbers as are handed on")
     try:
         whole = tuples[seats[0]]
         for seat in seats[1:]:
             whole = joined(paper, whole, tuples[seat])
         answers = told_answers(paper, whole)
     except BadNumbers:
-        raise BadTuples("a join or an answer is not whole")
+        raise BadTuples("not as many numbers as are handed on, or a join or an answer is not whole")
     return {name: answer for name, answer in zip(book.names, answers)}
 
 

@@ -83,8 +83,8 @@ class Reader:
         return self.words()[:1] == [word]
 
     def go_on(self, can_stand):
-        """Go on to the next line, if this one can stand here."""
-        if not can_stand or self.at >= len(self.lines):
+        """Go on to the next line, if there is one that can stand here."""
+        if not can_stand:
             raise BadText(self.at)
         self.at += 1
 

@@ -7,7 +7,7 @@ from stillknown.errors import BadNumber, BadTie, BadTies
 from stillknown.exchange import change_apart, changes
 from stillknown.joining import do_join, is_pair_of_workers, is_tree, workers_of
 from stillknown.links import MOST_LINKED, check_layout, ground_of, numbers_over
-from stillknown.values import is_list, is_tuple_of, is_within
+from stillknown.values import is_list, is_within
 
 MOST_TIES = 9
 MOST_TURNS = 6
@@ -30,7 +30,7 @@ def trees_over(ground, ties):
     workers = workers_of(ties)
     found = []
     for links in combinations(sorted(ties), len(workers) - 1):
-        if workers_of(links) == workers and is_tree(links):
+        if is_tree(links):
             sums = [sum(list(numbers_over(ground, links, root).values())) for root in workers]
             found.append((min(sums), links))
     least = min([total for total, _ in found])
@@ -46,11 +46,11 @@ def best_trees(book, layout, ties):
 def without_tie(book, layout, ties, gone):
     """The same for the ties without one; None if they do not join all workers any more."""
     check_ties(book, layout, ties)
-    if not is_tuple_of(gone, 2) or gone not in ties:
+    if gone not in ties:
         raise BadTie("none of the ties")
     ground = ground_of(book, layout)
     left = [tie for tie in ties if tie != gone]
-    if len(left) == 0 or workers_of(left) != workers_of(ties) or not do_join(left):
+    if workers_of(left) != workers_of(ties) or not do_join(left):
         return None
     return trees_over(ground, left)
 

@@ -149,7 +149,7 @@ class LinkNumbersTest(unittest.TestCase):
     def test_errors(self):
         bad = [None, 1, "ab", {}, {("a", "b"): 1}, [], (), [("a", "b"), ("b", "a")], [("a", "b"), ("a", "b")],
                [("a", "a")], [["a", "b"]], [("a", "c")], [("a", "b"), ("c", "d")], [("a", "b"), ("b", "c"), ("a", "c")],
-               [("a", "b", "c")], [("a", "t")], [("a", "B")], [("a", 1)], [None], [("a", "b"), None], ["ab"],
+               [("a", "b", "c")], [("a", "t")], [("a", "B")], [("a", 1)], [(1, "a")], [("t", "a")], [({}, "a")], [("a", "b"), (None, "b")], [None], [("a", "b"), None], ["ab"],
                [("a", "b")] + [("a", name) for name in ("c", "d", "e", "f", "g")],
                [("a", "b"), ("c", "d"), ("d", "e"), ("e", "c")]]
         for book in (TWO, LARGE):

@@ -257,6 +257,12 @@ class TextTest(unittest.TestCase):
         self.check(one + "".join(f"question {name} =l\n" for name in "abcde"), 5 + 4)
         self.assertEqual(read_book(one + "".join(f"question {name} =l\n" for name in "abcd")).names, tuple("abcd"))
 
+    def test_four_states(self):
+        four = "loop l\nstart a 0\non k\na = 0\nanswer 0\npattern p\non k 1 2 3 0\ngood 0 3\nquestion a =l\n"
+        self.assertEqual(read_book(four).patterns["p"], Pattern({"k": [1, 2, 3, 0]}, [0, 3]))
+        self.check(four.replace("1 2 3 0", "1 2 3 4 0"), 6)
+        self.check(four.replace("1 2 3 0", "1 2 3 4"), 6)
+
     def test_ends(self):
         lines = TEXT.split("\n")[:-1]
         for many in range(len(lines) - 1):

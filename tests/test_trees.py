@@ -98,7 +98,7 @@ class TreesTest(unittest.TestCase):
                 with self.assertRaises(BadLayout):
                     without_tie(book, value, None, None)
         bad = [None, 1, {}, [], (), [("b", "a")], [("a", "a")], [["a", "b"]], [("a", "b"), ("a", "b")], [("a", "c")],
-               [("a", "b"), ("c", "d")], [("a", "b", "c")], [("a", "t")], [("a", 1)], [None], "ab", [("a", "b"), ["b", "c"]],
+               [("a", "b"), ("c", "d")], [("a", "b", "c")], [("a", "t")], [("a", 1)], [(1, "a")], [("A", "a"), ("a", "b")], [None], "ab", [("a", "b"), ["b", "c"]],
                [("a", "b")] + [("a", name) for name in "cdefg"], [("a", "b"), {}],
                [pair for pair in combinations("abcde", 2)]]
         for book in (TWO, LARGE):

@@ -10,6 +10,7 @@ from stillknown.errors import (
     BadBook, BadKind, BadNumber, BadNumbers, BadPlaces, BadPolynomial, BadRows, BadTold, NoPlace, NoQuestion,
 )
 from stillknown.loops import Loop
+from stillknown.patterns import Pattern
 from stillknown.whatif import (
     degree_in, degree_shown, extremes, is_together_shown, numbers_for, repairs, together_shown, what_if, worth,
 )
@@ -286,6 +287,14 @@ class ForAllRowsTest(unittest.TestCase):
         self.assertEqual(degree_in(book, "a", "in"), 2)
         ahead, behind = degree_shown(book, "a", "in")
         self.assertEqual((len(ahead), behind), (1, []))
+        # Two unlike rows, in one order only, must come behind, or ahead.
+        start = {"x": 0, "y": 0, "z": 0}
+        kept = {name: ((name, 0, 1),) for name in start}
+        steps = {"in": {**kept, "x": (("", 1, 1),)}, "mid": {**kept, "y": (("x", 0, 1),), "x": ()},
+                 "out": {**kept, "z": (("y", 0, 1),)}}
+        lasting = Book({"l": Loop(start, steps, (("z", 0, 1),))}, {}, {"a": "l", "b": ("turned", "l")})
+        self.assertEqual(degree_shown(lasting, "a", "in"), ([], [("mid", 0), ("out", 0)]))
+        self.assertEqual(degree_shown(lasting, "b", "in"), ([("out", 0), ("mid", 0)], []))
 
     def test_degrees_against_plain_search(self):
         seen = set()
@@ -340,6 +349,19 @@ class ForAllRowsTest(unittest.TestCase):
         self.assertIs(is_together_shown(third, "a", "in", "out", ([], 7, [("mid", 9), ("in", 4)], -2, [("in", 1)])), True)
         self.assertIs(is_together_shown(third, "a", "in", "out", ([], 7, [("mid", 9), ("mid", 0)], -2, [])), False)
 
+    def test_as_few_rows_together_as_can_be(self):
+        product_of = Loop({"x": 0}, {"in": {"x": (("", 1, 1),)}, "mid": {"x": (("x", 0, 1),)}, "out": {"x": (("x", 1, 1),)}},
+                          (("x", 0, 1),))
+        # Two rows ahead would do, and one between or behind; then two between or behind, and one ahead.
+        for moves, one_row in [([1, 1, 2], "between or behind"), ([0, 2, 2], "ahead")]:
+            steps = {"in": moves, "mid": [1, 2, 2], "out": [0, 1, 2]}
+            book = Book({"l": product_of}, {"p": Pattern(steps, [2])}, {"a": ("only", "p", "l")})
+            ahead, x, between, y, behind = found = together_shown(book, "a", "in", "out")
+            self.assertEqual(len(ahead) + len(between) + len(behind), 1)
+            self.assertEqual(len(ahead), 1 if one_row == "ahead" else 0)
+            self.assertIs(is_together_shown(book, "a", "in", "out", found), True)
+            self.assertIs(is_together_shown(book, "a", "in", "out", (ahead, -1, between, -1, behind)), True)
+
     def test_together_against_plain_search(self):
         seen = set()
         for chance, book, name, _ in some_questions(1120, 250, (0, 1)):
@@ -368,8 +390,8 @@ class ForAllRowsTest(unittest.TestCase):
         self.assertTrue({None, 0, 1} <= seen)
 
     def test_is_together_shown(self):
-        for _, book, name, rows in some_questions(1121, 30, (0, 1)):
-            for x, y in [(1, 2), (-3, HUGE)]:
+        for _, book, name, rows in some_questions(1121, 60):
+            for x, y in [(1, 2), (-3, HUGE), (-1, 1), (1, -1)]:
                 lists = rows[:1], rows[1:3], rows[3:]
                 wanted = mixed_change(book, name, "in", "in", lists, x, y) != 0
                 self.assertIs(is_together_shown(book, name, "in", "in", (lists[0], x, tuple(lists[1]), y, lists[2])), wanted)
