@@ -240,6 +240,26 @@ class Language(unittest.TestCase):
                             names = {name for one in inner.generators for name in bound_names(one.target)} - {"_"}
                             self.assertFalse(names & taken, self.where(path, inner))
 
+    def test_no_attribute_has_the_name_of_a_method(self):
+        methods = {part.name for _, node in self.each() if isinstance(node, ast.ClassDef) for part in node.body
+                   if isinstance(part, ast.FunctionDef)}
+        for path, node in self.each():
+            if isinstance(node, ast.Attribute) and isinstance(node.ctx, ast.Store):
+                self.assertNotIn(node.attr, methods, self.where(path, node))
+
+    def test_double_underscore_methods(self):
+        for path, tree in self.trees.items():
+            inside = {id(part) for node in tree.body if isinstance(node, ast.ClassDef) for part in node.body}
+            for node in ast.walk(tree):
+                if isinstance(node, ast.FunctionDef) and node.name.startswith("__"):
+                    self.assertIn(node.name, ("__init__", "__eq__", "__len__", "__enter__", "__exit__"), self.where(path, node))
+                    self.assertIn(id(node), inside)
+                if isinstance(node, ast.FunctionDef) and node.name == "__exit__":
+                    for part in ast.walk(node):
+                        self.assertNotIsInstance(part, (ast.Call, ast.Subscript, ast.Raise, ast.Return, ast.For, ast.While))
+                        if isinstance(part, ast.Name):
+                            self.assertIn(part.id, ("self", "kind"))
+
     def test_no_attribute_has_the_name_of_a_property(self):
         named = {part.name for _, node in self.each() if isinstance(node, ast.ClassDef) for part in node.body
                  if isinstance(part, ast.FunctionDef) and part.decorator_list}

@@ -467,7 +467,7 @@ class DrawnDeedsTest(unittest.TestCase):
     def test_against_all_rows(self):
         chance = random.Random(120)
         refused, done = set(), set()
-        for _ in range(40):
+        for _ in range(60):
             kinds = chance.choice([("in",), ("in", "out")])
             book = chance.choice([TWO, RICH, LASTS, FLAT, NOTHING, LARGE] + [
                 random_questions(chance, random_book(chance, kinds, (0, 1)), 4, 3, 6)] * 3)
