@@ -361,6 +361,8 @@ class ForAllRowsTest(unittest.TestCase):
             self.assertEqual(len(ahead), 1 if one_row == "ahead" else 0)
             self.assertIs(is_together_shown(book, "a", "in", "out", found), True)
             self.assertIs(is_together_shown(book, "a", "in", "out", (ahead, -1, between, -1, behind)), True)
+            ahead, behind = degree_shown(book, "a", "in")
+            self.assertEqual((len(ahead), len(behind)), (1, 0) if one_row == "ahead" else (0, 1))
 
     def test_together_against_plain_search(self):
         seen = set()
