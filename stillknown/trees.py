@@ -28,8 +28,9 @@ def check_ties(book, layout, ties):
 def trees_over(ground, ties):
     """The least sum of link numbers of all trees of some ties, and the trees that have it."""
     workers = workers_of(ties)
+    pairs = sorted(ties)
     found = []
-    for links in combinations(sorted(ties), len(workers) - 1):
+    for links in combinations(pairs, int(len(workers) - 1)):
         if is_tree(links):
             sums = [sum(list(numbers_over(ground, links, root).values())) for root in workers]
             found.append((min(sums), links))
